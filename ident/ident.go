@@ -9,6 +9,7 @@ import (
 	"strings"
 
 	"topiary/api"
+	"topiary/whole"
 )
 
 const (
@@ -119,11 +120,11 @@ func parseRight(s string) (api.Stamp, api.Errno) {
 	if !found {
 		return api.Stamp{}, api.ErrForm
 	}
-	c, ok := parseNumber(count)
+	c, ok := whole.Read(count)
 	if !ok {
 		return api.Stamp{}, api.ErrForm
 	}
-	r, ok := parseNumber(replica)
+	r, ok := whole.Read(replica)
 	if !ok {
 		return api.Stamp{}, api.ErrForm
 	}
@@ -132,15 +133,6 @@ func parseRight(s string) (api.Stamp, api.Errno) {
 		return api.Stamp{}, api.ErrForm
 	}
 	return out, api.OK
-}
-
-// parseNumber reads a number just as it is written; strconv alone would take signs and noughts ahead, too.
-func parseNumber(s string) (int, bool) {
-	n, err := strconv.Atoi(s)
-	if err != nil || strconv.Itoa(n) != s {
-		return 0, false
-	}
-	return n, true
 }
 
 func isRoot(s api.Stamp) bool { return s.Count == 0 && s.Replica == 0 }
